@@ -12,6 +12,7 @@ import (
 	"testing"
 
 	"gatepost/api"
+	"gatepost/probe"
 	"gatepost/sha"
 )
 
@@ -29,13 +30,6 @@ var standardKeys = [64]uint32{
 	0xa2bfe8a1, 0xa81a664b, 0xc24b8b70, 0xc76c51a3, 0xd192e819, 0xd6990624, 0xf40e3585, 0x106aa070,
 	0x19a4c116, 0x1e376c08, 0x2748774c, 0x34b0bcb5, 0x391c0cb3, 0x4ed8aa4a, 0x5b9cca4f, 0x682e6ff3,
 	0x748f82ee, 0x78a5636f, 0x84c87814, 0x8cc70208, 0x90befffa, 0xa4506ceb, 0xbef9a3f7, 0xc67178f2,
-}
-
-// someBytes answers n bytes that hang on the seed alone.
-func someBytes(seed int64, n int) []byte {
-	b := make([]byte, n)
-	rand.New(rand.NewSource(seed)).Read(b)
-	return b
 }
 
 // someState answers a state that hangs on the seed alone.
@@ -98,22 +92,6 @@ func sameSha(a, b api.Sha) bool {
 	return a.H == b.H && a.N == b.N && bytes.Equal(a.Rest, b.Rest)
 }
 
-// guarded answers a copy of b with room behind its end, and a call that tells whether either has changed.
-func guarded(b []byte) (got []byte, stays func() bool) {
-	const room = 100
-	whole := append(slices.Clone(b), bytes.Repeat([]byte{0xa5}, room)...)
-	before := slices.Clone(whole)
-	return whole[: len(b) : len(b)+room], func() bool { return bytes.Equal(whole, before) }
-}
-
-// scrub overwrites b and the room behind its end.
-func scrub(b []byte) {
-	b = b[:cap(b)]
-	for i := range b {
-		b[i] ^= 0x5a
-	}
-}
-
 func TestP1_1FirstAndKeys(t *testing.T) {
 	if h := sha.First(); h != firstState {
 		t.Errorf("First: %08x", h)
@@ -153,7 +131,7 @@ func TestP1_1RootBits(t *testing.T) {
 
 func TestP1_2Block(t *testing.T) {
 	for seed := range int64(200) {
-		h, b := someState(seed), someBytes(seed+1000, 64)
+		h, b := someState(seed), probe.Bytes(seed+1000, 64)
 		got, e := sha.Block(h, b)
 		if want := stateBehind(t, h, b); got != want || e != api.OK {
 			t.Errorf("seed %d: %08x, %v; want %08x", seed, got, e, want)
@@ -186,7 +164,7 @@ func TestP1_2BlockOfStandard(t *testing.T) {
 }
 
 func TestP1_2BlockOfOtherLengths(t *testing.T) {
-	long := someBytes(1, 256)
+	long := probe.Bytes(1, 256)
 	rows := [][]byte{nil, {}, long[:1], long[:32], long[:55], long[:56], long[:63], long[:63:63], long[:65], long[:128], long}
 	for _, b := range rows {
 		if h, e := sha.Block(sha.First(), b); e != api.ErrArg || h != [8]uint32{} {
@@ -282,7 +260,7 @@ func TestP1_4OfStandard(t *testing.T) {
 }
 
 func TestP1_4OfEachLength(t *testing.T) {
-	b := someBytes(4, 400)
+	b := probe.Bytes(4, 400)
 	for n := range len(b) {
 		if got, want := sha.Of(b[:n]), sha256.Sum256(b[:n]); got != want {
 			t.Errorf("%d bytes: %x, want %x", n, got, want)
@@ -314,8 +292,8 @@ func TestP1_5WriteToAny(t *testing.T) {
 	counts := []uint64{0, 1, 55, 64, 1 << 61, 1<<64 - 1, 1<<64 - 64}
 	for i, rest := range []int{0, 1, 9, 55, 56, 63, 64, 65, 127, 128, 200} {
 		for j, more := range []int{0, 1, 8, 55, 63, 64, 65, 129} {
-			s := api.Sha{H: someState(int64(i)), Rest: someBytes(int64(i)+50, rest), N: counts[(i+j)%len(counts)]}
-			b := someBytes(int64(j)+90, more)
+			s := api.Sha{H: someState(int64(i)), Rest: probe.Bytes(int64(i)+50, rest), N: counts[(i+j)%len(counts)]}
+			b := probe.Bytes(int64(j)+90, more)
 			all := slices.Concat(s.Rest, b)
 			want := api.Sha{H: stateBehind(t, s.H, all), Rest: all[len(all)/64*64:], N: s.N + uint64(more)}
 			if got := sha.Write(s, b); !sameSha(got, want) {
@@ -332,7 +310,7 @@ func TestP1_5WriteToAny(t *testing.T) {
 func TestP1_5SumOfAny(t *testing.T) {
 	for i, rest := range []int{0, 1, 9, 54, 55, 56, 63, 64, 65, 119, 120, 128, 200} {
 		for _, n := range []uint64{0, 1, 9, 54, 55, 56, 63, 64, 65, 200, 1<<61 - 1, 1 << 61, 1<<61 + 55, 1<<64 - 9, 1<<64 - 1} {
-			s := api.Sha{H: someState(int64(i)), Rest: someBytes(int64(i)+50, rest), N: n}
+			s := api.Sha{H: someState(int64(i)), Rest: probe.Bytes(int64(i)+50, rest), N: n}
 			want := stateBytes(stateBehind(t, s.H, slices.Concat(s.Rest, endOf(n))))
 			if got := sha.Sum(s); got != want {
 				t.Errorf("rest of %d, N %d: %x, want %x", rest, n, got, want)
@@ -346,7 +324,7 @@ func TestP1_5SumOfAny(t *testing.T) {
 }
 
 func TestP1_5SumGoesOn(t *testing.T) {
-	s, b := sha.New(), someBytes(6, 300)
+	s, b := sha.New(), probe.Bytes(6, 300)
 	for i, x := range b {
 		if got, want := sha.Sum(s), sha256.Sum256(b[:i]); got != want {
 			t.Errorf("%d bytes: %x, want %x", i, got, want)
@@ -361,8 +339,8 @@ func TestP1_5SumGoesOn(t *testing.T) {
 func TestP1_6HandedInStays(t *testing.T) {
 	for _, n := range []int{0, 1, 55, 56, 63, 64, 65, 130} {
 		for _, more := range []int{0, 1, 63, 64, 130} {
-			rest, restStays := guarded(someBytes(1, n))
-			b, bytesStay := guarded(someBytes(2, more))
+			rest, restStays := probe.Guarded(probe.Bytes(1, n))
+			b, bytesStay := probe.Guarded(probe.Bytes(2, more))
 			h := someState(3)
 			s := api.Sha{H: h, Rest: rest, N: 5}
 			sha.Write(s, b)
@@ -394,26 +372,26 @@ func TestP1_6RowOfPartsStays(t *testing.T) {
 func TestP1_6AnswersAreNew(t *testing.T) {
 	for _, n := range []int{0, 1, 10, 63, 64, 70, 140} {
 		for _, more := range []int{0, 1, 10, 64, 70} {
-			rest, restStays := guarded(someBytes(1, n))
-			b, bytesStay := guarded(someBytes(2, more))
+			rest, restStays := probe.Guarded(probe.Bytes(1, n))
+			b, bytesStay := probe.Guarded(probe.Bytes(2, more))
 			s := api.Sha{H: someState(3), Rest: rest}
 			first, second := sha.Write(s, b), sha.Write(s, b)
 			want := slices.Clone(second.Rest)
-			scrub(first.Rest)
+			probe.Scrub(first.Rest)
 			if !restStays() || !bytesStay() {
 				t.Errorf("a rest of %d, %d more: the answer shares memory with what was handed in", n, more)
 			}
 			if !bytes.Equal(second.Rest, want) {
 				t.Errorf("a rest of %d, %d more: two answers share memory", n, more)
 			}
-			scrub(rest)
-			scrub(b)
+			probe.Scrub(rest)
+			probe.Scrub(b)
 			if !bytes.Equal(second.Rest, want) {
 				t.Errorf("a rest of %d, %d more: the answer has changed with what was handed in", n, more)
 			}
 		}
 	}
-	scrub(sha.End(3))
+	probe.Scrub(sha.End(3))
 	if !bytes.Equal(sha.End(3), endOf(3)) {
 		t.Error("two ends share memory")
 	}
@@ -432,7 +410,7 @@ func TestP1_6Branches(t *testing.T) {
 }
 
 func TestP1_7CutAnywhere(t *testing.T) {
-	b := someBytes(7, 200)
+	b := probe.Bytes(7, 200)
 	want := sha256.Sum256(b)
 	for i := range len(b) + 1 {
 		if got := sha.Of(b[:i], b[i:]); got != want {
@@ -447,7 +425,7 @@ func TestP1_7CutAnywhere(t *testing.T) {
 func TestP1_7CutOften(t *testing.T) {
 	r := rand.New(rand.NewSource(8))
 	for seed := range int64(200) {
-		b := someBytes(seed, r.Intn(600))
+		b := probe.Bytes(seed, r.Intn(600))
 		s := sha.New()
 		var parts [][]byte
 		for left := b; len(left) > 0; {
@@ -502,7 +480,7 @@ func TestP1_8EndsUnlike(t *testing.T) {
 
 func TestP1_9WrittenIsBlocks(t *testing.T) {
 	for count := range 6 {
-		b := someBytes(int64(count), 64*count)
+		b := probe.Bytes(int64(count), 64*count)
 		h := someState(int64(count) + 20)
 		s := sha.Write(api.Sha{H: h, N: 64}, b)
 		for i := range count {
@@ -520,7 +498,7 @@ func TestP1_9WrittenIsBlocks(t *testing.T) {
 // The same from the first state on, with the end as the last of the blocks.
 func TestP1_9SumIsBlocks(t *testing.T) {
 	for n := range 200 {
-		b := someBytes(int64(n), n)
+		b := probe.Bytes(int64(n), n)
 		h := sha.First()
 		for all := append(slices.Clone(b), sha.End(uint64(n))...); len(all) > 0; all = all[64:] {
 			var e api.Errno

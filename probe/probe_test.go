@@ -1,0 +1,65 @@
+package probe_test
+
+import (
+	"bytes"
+	"testing"
+
+	"gatepost/probe"
+)
+
+func TestBytes(t *testing.T) {
+	for n := range 100 {
+		if b := probe.Bytes(1, n); len(b) != n || !bytes.Equal(b, probe.Bytes(1, n)) {
+			t.Errorf("%d bytes: %x", n, b)
+		}
+	}
+	seen := map[string]bool{}
+	for seed := range int64(1000) {
+		seen[string(probe.Bytes(seed, 32))] = true
+	}
+	if len(seen) != 1000 {
+		t.Errorf("1000 seeds, %d texts", len(seen))
+	}
+	count := map[byte]int{}
+	for _, x := range probe.Bytes(7, 1<<16) {
+		count[x]++
+	}
+	for x, n := range count {
+		if len(count) != 256 || n < 128 || n > 512 {
+			t.Fatalf("the byte %d stands there %d times, of %d kinds", x, n, len(count))
+		}
+	}
+}
+
+// Each byte's change is told, and so is that of the room behind the end.
+func TestGuarded(t *testing.T) {
+	for _, n := range []int{0, 1, 20} {
+		want := probe.Bytes(1, n)
+		for i := range n + 1 {
+			got, stays := probe.Guarded(want)
+			if !bytes.Equal(got, want) || cap(got) <= n || !stays() {
+				t.Fatalf("%d bytes: %x, room for %d", n, got, cap(got))
+			}
+			got[: n+1 : n+1][i]++
+			if stays() {
+				t.Errorf("%d bytes: the change of byte %d is not told", n, i)
+			}
+		}
+		got, stays := probe.Guarded(want)
+		got[:cap(got)][cap(got)-1]++
+		if stays() {
+			t.Errorf("%d bytes: the change of the last byte behind them is not told", n)
+		}
+	}
+}
+
+func TestScrub(t *testing.T) {
+	b := make([]byte, 10, 20)
+	probe.Scrub(b)
+	for i, x := range b[:cap(b)] {
+		if x == 0 {
+			t.Errorf("byte %d is as it was", i)
+		}
+	}
+	probe.Scrub(nil)
+}
