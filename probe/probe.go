@@ -1,12 +1,9 @@
 // Package probe is for the packages' tests alone: bytes to hand in, and whether they stay as they are.
 package probe
 
-import (
-	"bytes"
-	"slices"
-)
+import "slices"
 
-// room is how many bytes stand behind the end of what Guarded answers.
+// room is how many items stand behind the end of what Guarded and GuardedRow answer.
 const room = 100
 
 // Bytes answers n bytes that look like chance, and hang on the seed alone.
@@ -23,10 +20,13 @@ func Bytes(seed int64, n int) []byte {
 }
 
 // Guarded answers a copy of b with room behind its end, and a call that tells whether both are as they were.
-func Guarded(b []byte) (got []byte, stays func() bool) {
-	whole := append(slices.Clone(b), bytes.Repeat([]byte{0xa5}, room)...)
+func Guarded(b []byte) (got []byte, stays func() bool) { return GuardedRow(b, 0xa5) }
+
+// GuardedRow is Guarded for rows of any kind; behind stands in the room.
+func GuardedRow[T comparable](l []T, behind T) (got []T, stays func() bool) {
+	whole := append(slices.Clone(l), slices.Repeat([]T{behind}, room)...)
 	before := slices.Clone(whole)
-	return whole[: len(b) : len(b)+room], func() bool { return bytes.Equal(whole, before) }
+	return whole[: len(l) : len(l)+room], func() bool { return slices.Equal(whole, before) }
 }
 
 // Scrub makes each byte of b, and of the room behind its end, another one.

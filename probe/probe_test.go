@@ -2,6 +2,7 @@ package probe_test
 
 import (
 	"bytes"
+	"slices"
 	"testing"
 
 	"gatepost/probe"
@@ -49,6 +50,20 @@ func TestGuarded(t *testing.T) {
 		got[:cap(got)][cap(got)-1]++
 		if stays() {
 			t.Errorf("%d bytes: the change of the last byte behind them is not told", n)
+		}
+	}
+}
+
+func TestGuardedRow(t *testing.T) {
+	want := []string{"a", "b"}
+	for i := range 4 {
+		got, stays := probe.GuardedRow(want, "behind")
+		if !slices.Equal(got, want) || cap(got) <= 4 || got[:3][2] != "behind" || !stays() {
+			t.Fatalf("%q, room for %d", got, cap(got))
+		}
+		got[:4][i] = "other"
+		if stays() {
+			t.Errorf("the change of item %d is not told", i)
 		}
 	}
 }
