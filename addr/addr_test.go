@@ -10,6 +10,7 @@ import (
 
 	"gatepost/addr"
 	"gatepost/api"
+	"gatepost/probe"
 )
 
 // someAddrs are addresses at their edges: those of each byte at each place, those of one bit more or less, and some between.
@@ -60,23 +61,9 @@ func checkParse(t *testing.T, s string) bool {
 	return ok
 }
 
-// edited answers s with some bytes put in, taken out, doubled or changed.
+// edited answers s with some bytes put in, taken out or changed; r says which.
 func edited(r *rand.Rand, s string) string {
-	const letters = "0123456789./ +-a\x00"
-	b := []byte(s)
-	for range r.Intn(3) {
-		i := r.Intn(len(b) + 1)
-		x := letters[r.Intn(len(letters))]
-		switch {
-		case r.Intn(3) == 0 || i == len(b):
-			b = append(b[:i], append([]byte{x}, b[i:]...)...)
-		case r.Intn(2) == 0:
-			b = append(b[:i], b[i+1:]...)
-		default:
-			b[i] = x
-		}
-	}
-	return string(b)
+	return probe.Edited(s, "0123456789./ +-a\x00", r.Intn)
 }
 
 func TestP4_1Examples(t *testing.T) {
@@ -161,16 +148,8 @@ func TestP4_1ParseWrong(t *testing.T) {
 // Every byte, at every place of texts, put in or in the place of another one.
 func TestP4_1ParseEachByte(t *testing.T) {
 	for _, s := range []string{"10.0.1.2", "0.0.0.0", "255.255.255.255", "1.22.133.244"} {
-		checkParse(t, s)
-		for i := range len(s) + 1 {
-			for x := range 256 {
-				checkParse(t, s[:i]+string([]byte{byte(x)})+s[i:])
-				if i < len(s) {
-					checkParse(t, s[:i]+string([]byte{byte(x)})+s[i+1:])
-				}
-			}
-			checkParse(t, s[:i])
-			checkParse(t, s[i:])
+		for near := range probe.Near(s) {
+			checkParse(t, near)
 		}
 	}
 }

@@ -12,6 +12,7 @@ import (
 
 	"gatepost/addr"
 	"gatepost/api"
+	"gatepost/probe"
 )
 
 var (
@@ -353,15 +354,8 @@ func TestP4_3ParseNetEdited(t *testing.T) {
 
 func TestP4_3ParseNetEachByte(t *testing.T) {
 	for _, s := range []string{"10.0.0.0/8", "0.0.0.0/0", "255.255.255.255/32", "128.0.0.0/1", "10.0.1.2/31"} {
-		for i := range len(s) + 1 {
-			for x := range 256 {
-				checkParseNet(t, s[:i]+string([]byte{byte(x)})+s[i:])
-				if i < len(s) {
-					checkParseNet(t, s[:i]+string([]byte{byte(x)})+s[i+1:])
-				}
-			}
-			checkParseNet(t, s[:i])
-			checkParseNet(t, s[i:])
+		for near := range probe.Near(s) {
+			checkParseNet(t, near)
 		}
 	}
 }

@@ -9,6 +9,7 @@ import (
 
 	"gatepost/api"
 	"gatepost/name"
+	"gatepost/probe"
 )
 
 // The words of a label and of a name's text, for the library's expressions; \z, as $ would let a line's end follow.
@@ -89,23 +90,9 @@ func someLabel(r *rand.Rand) string {
 	return string(b)
 }
 
-// edited answers s with some bytes put in, taken out or changed.
+// edited answers s with some bytes put in, taken out or changed; r says which.
 func edited(r *rand.Rand, s string) string {
-	const letters = "abz09--/-AZ ._:\x00\x80\xc3\xa9\xff"
-	b := []byte(s)
-	for range r.Intn(3) {
-		i := r.Intn(len(b) + 1)
-		x := letters[r.Intn(len(letters))]
-		switch {
-		case r.Intn(3) == 0 || i == len(b):
-			b = append(b[:i], append([]byte{x}, b[i:]...)...)
-		case r.Intn(2) == 0:
-			b = append(b[:i], b[i+1:]...)
-		default:
-			b[i] = x
-		}
-	}
-	return string(b)
+	return probe.Edited(s, "abz09--/-AZ ._:\x00\x80\xc3\xa9\xff", r.Intn)
 }
 
 // shares tells whether two texts have a byte of memory together.
@@ -184,14 +171,8 @@ func TestP5_1EachByte(t *testing.T) {
 		t.Errorf("%d labels of one byte", alone)
 	}
 	for n := range 22 {
-		s := (letters20 + "uv")[:n]
-		for i := range n + 1 {
-			for x := range 256 {
-				checkLabel(t, s[:i]+string([]byte{byte(x)})+s[i:])
-				if i < n {
-					checkLabel(t, s[:i]+string([]byte{byte(x)})+s[i+1:])
-				}
-			}
+		for near := range probe.Near((letters20 + "uv")[:n]) {
+			checkLabel(t, near)
 		}
 	}
 }
@@ -364,16 +345,8 @@ func TestP5_2ParseLengths(t *testing.T) {
 // Every byte, at every place of texts, put in or in the place of another one; every beginning and end of them.
 func TestP5_2ParseEachByte(t *testing.T) {
 	for _, s := range []string{"spiffe://mesh/ns/shop/sa/web-1", "spiffe://mesh/ns/a/sa/0", "spiffe://mesh/ns/sa/sa/sa", "spiffe://mesh/ns/" + letters20 + "/sa/" + letters20} {
-		checkParse(t, s)
-		for i := range len(s) + 1 {
-			for x := range 256 {
-				checkParse(t, s[:i]+string([]byte{byte(x)})+s[i:])
-				if i < len(s) {
-					checkParse(t, s[:i]+string([]byte{byte(x)})+s[i+1:])
-				}
-			}
-			checkParse(t, s[:i])
-			checkParse(t, s[i:])
+		for near := range probe.Near(s) {
+			checkParse(t, near)
 		}
 	}
 }

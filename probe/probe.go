@@ -1,7 +1,10 @@
-// Package probe is for the packages' tests alone: bytes to hand in, and whether they stay as they are.
+// Package probe is for the packages' tests alone: bytes and texts to hand in, and whether they stay as they are.
 package probe
 
-import "slices"
+import (
+	"iter"
+	"slices"
+)
 
 // room is how many items stand behind the end of what Guarded and GuardedRow answer.
 const room = 100
@@ -35,4 +38,39 @@ func Scrub(b []byte) {
 	for i := range b {
 		b[i] ^= 0x5a
 	}
+}
+
+// Near answers s, its beginnings and its ends, and each text that has a byte more than it, anywhere, or another one in the place of one of its.
+func Near(s string) iter.Seq[string] {
+	return func(yield func(string) bool) {
+		for i := range len(s) + 1 {
+			if !yield(s[:i]) || !yield(s[i:]) {
+				return
+			}
+			for x := range 256 {
+				b := string([]byte{byte(x)})
+				if !yield(s[:i]+b+s[i:]) || i < len(s) && !yield(s[:i]+b+s[i+1:]) {
+					return
+				}
+			}
+		}
+	}
+}
+
+// Edited answers s with up to two bytes put in, of the letters, taken out or changed; choose answers a number from 0 to below n.
+func Edited(s, letters string, choose func(n int) int) string {
+	b := []byte(s)
+	for range choose(3) {
+		i := choose(len(b) + 1)
+		x := letters[choose(len(letters))]
+		switch {
+		case choose(3) == 0 || i == len(b):
+			b = slices.Insert(b, i, x)
+		case choose(2) == 0:
+			b = slices.Delete(b, i, i+1)
+		default:
+			b[i] = x
+		}
+	}
+	return string(b)
 }

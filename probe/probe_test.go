@@ -78,3 +78,60 @@ func TestScrub(t *testing.T) {
 	}
 	probe.Scrub(nil)
 }
+
+func TestNear(t *testing.T) {
+	count := map[string]int{}
+	n := 0
+	for s := range probe.Near("ab") {
+		count[s]++
+		n++
+	}
+	if n != 2*3+3*256+2*256 {
+		t.Errorf("%d texts", n)
+	}
+	for _, s := range []string{"", "a", "b", "ab", "xab", "axb", "abx", "xb", "ax", "a\x00", "\xffb", "aab", "abb"} {
+		if count[s] == 0 {
+			t.Errorf("%q is not there", s)
+		}
+	}
+	for s := range count {
+		if len(s) > 3 || len(s) == 3 && s[1:] != "ab" && s[:2] != "ab" && s[:1]+s[2:] != "ab" || len(s) == 2 && s[0] != 'a' && s[1] != 'b' {
+			t.Errorf("%q is not near", s)
+		}
+	}
+	for most := range n {
+		i := 0
+		for range probe.Near("ab") {
+			if i == most {
+				break
+			}
+			i++
+		}
+	}
+}
+
+func TestEdited(t *testing.T) {
+	for _, x := range []struct {
+		choices []int
+		want    string
+	}{
+		{[]int{0}, "abc"},
+		{[]int{1, 1, 1, 0}, "aybc"},
+		{[]int{1, 3, 0, 1}, "abcx"},
+		{[]int{1, 1, 1, 1, 0}, "ac"},
+		{[]int{1, 2, 1, 2, 1}, "aby"},
+		{[]int{2, 0, 0, 1, 0, 0, 1, 0}, "ybc"},
+	} {
+		at := 0
+		got := probe.Edited("abc", "xy", func(n int) int {
+			at++
+			if x.choices[at-1] >= n {
+				t.Fatalf("%v: number %d is to be below %d", x.choices, at, n)
+			}
+			return x.choices[at-1]
+		})
+		if got != x.want || at != len(x.choices) {
+			t.Errorf("%v: %q, %d chosen", x.choices, got, at)
+		}
+	}
+}
