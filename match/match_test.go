@@ -276,7 +276,7 @@ func TestP7_2LongRows(t *testing.T) {
 func TestP7_2EachRow(t *testing.T) {
 	terms := append(termsOf("a", "ab"), api.Term{Kind: api.TermPresent}, api.Term{}, api.Term{Kind: api.TermPresent, Text: "a"})
 	texts := textsUpTo(3, "ab")
-	for _, l := range rowsUpTo(3, terms) {
+	for _, l := range probe.Rows(3, terms...) {
 		for _, s := range texts {
 			want := false
 			for _, x := range l {

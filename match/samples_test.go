@@ -4,7 +4,6 @@ import (
 	"math"
 	"math/rand"
 	"regexp"
-	"slices"
 	"strings"
 
 	"gatepost/api"
@@ -129,17 +128,7 @@ func isMatched(t api.Term, s string) bool {
 
 // textsUpTo answers all texts of at most most of the letters.
 func textsUpTo(most int, letters string) []string {
-	l := []string{""}
-	for from := 0; most > 0; most-- {
-		to := len(l)
-		for _, s := range l[from:to] {
-			for i := range len(letters) {
-				l = append(l, s+letters[i:i+1])
-			}
-		}
-		from = to
-	}
-	return l
+	return probe.Texts(most, strings.Split(letters, "")...)
 }
 
 // smallTerms are all terms that may be of at most most of the letters.
@@ -175,19 +164,4 @@ func someTerm(r *rand.Rand) api.Term {
 // edited answers s with some bytes put in, taken out or changed; r says which.
 func edited(r *rand.Rand, s string) string {
 	return probe.Edited(s, "ab**,,/.!~ \n\x00\x7f\x80\xff", r.Intn)
-}
-
-// rowsUpTo answers all rows of at most most of the terms.
-func rowsUpTo(most int, terms []api.Term) [][]api.Term {
-	rows := [][]api.Term{nil}
-	for from := 0; most > 0; most-- {
-		to := len(rows)
-		for _, l := range rows[from:to] {
-			for _, t := range terms {
-				rows = append(rows, append(slices.Clone(l), t))
-			}
-		}
-		from = to
-	}
-	return rows
 }

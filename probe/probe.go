@@ -4,6 +4,7 @@ package probe
 import (
 	"iter"
 	"slices"
+	"strings"
 )
 
 // room is how many items stand behind the end of what Guarded and GuardedRow answer.
@@ -38,6 +39,30 @@ func Scrub(b []byte) {
 	for i := range b {
 		b[i] ^= 0x5a
 	}
+}
+
+// Rows answers all rows of at most most of the items, the shorter ones first.
+func Rows[T any](most int, items ...T) [][]T {
+	rows := [][]T{nil}
+	for from := 0; most > 0; most-- {
+		to := len(rows)
+		for _, l := range rows[from:to] {
+			for _, x := range items {
+				rows = append(rows, append(slices.Clone(l), x))
+			}
+		}
+		from = to
+	}
+	return rows
+}
+
+// Texts answers all texts that at most most of the parts make, those of fewer parts first.
+func Texts(most int, parts ...string) []string {
+	var texts []string
+	for _, l := range Rows(most, parts...) {
+		texts = append(texts, strings.Join(l, ""))
+	}
+	return texts
 }
 
 // Near answers s, its beginnings and its ends, and each text that has a byte more than it, anywhere, or another one in the place of one of its.

@@ -79,6 +79,40 @@ func TestScrub(t *testing.T) {
 	probe.Scrub(nil)
 }
 
+func TestRows(t *testing.T) {
+	want := [][]int{nil, {1}, {2}, {1, 1}, {1, 2}, {2, 1}, {2, 2}}
+	for most, n := range map[int]int{-1: 1, 0: 1, 1: 3, 2: 7} {
+		if got := probe.Rows(most, 1, 2); !slices.EqualFunc(got, want[:n], slices.Equal) {
+			t.Errorf("%d: %v", most, got)
+		}
+	}
+	if got := probe.Rows[int](3); len(got) != 1 || len(got[0]) != 0 {
+		t.Errorf("of nothing: %v", got)
+	}
+	rows := probe.Rows(4, 1, 2, 3)
+	for i, l := range rows {
+		before := slices.Clone(l)
+		for j := range l {
+			l[j] = 9
+		}
+		for _, m := range rows[i+1:] {
+			if slices.Contains(m, 9) {
+				t.Fatalf("%v: another row is changed with it", before)
+			}
+		}
+		copy(l, before)
+	}
+}
+
+func TestTexts(t *testing.T) {
+	if got := probe.Texts(2, "a", "bc"); !slices.Equal(got, []string{"", "a", "bc", "aa", "abc", "bca", "bcbc"}) {
+		t.Errorf("%q", got)
+	}
+	if got := probe.Texts(3); !slices.Equal(got, []string{""}) {
+		t.Errorf("of nothing: %q", got)
+	}
+}
+
 func TestNear(t *testing.T) {
 	count := map[string]int{}
 	n := 0
