@@ -14,10 +14,10 @@ const (
 	nought      = "0"
 )
 
-// MayHost tells whether the text may be a host.
+// MayHost tells whether the text may be a host. A colon and a port are among its MaxText bytes, so that each host has room in a term.
 func MayHost(s string) bool {
 	host, port, has := strings.Cut(s, portSign)
-	if host == "" || len(host) > api.MaxText || strings.Trim(host, hostLetters) != "" {
+	if host == "" || len(s) > api.MaxText || strings.Trim(host, hostLetters) != "" {
 		return false
 	}
 	return !has || mayPort(port)

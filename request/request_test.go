@@ -66,6 +66,7 @@ func TestP10_3One(t *testing.T) {
 		"": api.ErrForm, plainGet: api.OK, plainGet + plainGet: api.ErrForm, plainGet + "\r\n": api.ErrForm, "\r\n" + plainGet: api.ErrForm, plainGet[1:]: api.OK, plainGet[:len(plainGet)-1]: api.ErrForm, plainGet + "x": api.ErrForm,
 		"\r\n\r\n": api.ErrForm, "HTTP/1.1 200 OK\r\n\r\n": api.ErrForm, "HTTP/1.1 200 OK\r\nHost: a\r\n\r\n": api.ErrForm, "GET / HTTP/1.1\r\n\r\n": api.ErrForm,
 		strings.Repeat("a", 579): api.ErrLong, chunkedTop + "401\r\n": api.ErrLong, "GET / HTTP/1.1\r\nHost: a\r\nContent-Length: 1025\r\n\r\n": api.ErrLong, "GET / HTTP/1.1\r\n" + strings.Repeat("a: b\r\n", 25): api.ErrFull, plainGet + strings.Repeat("a", 579): api.ErrLong,
+		"GET / HTTP/1.1\r\nHost: " + letters64[:61] + ":80\r\n\r\n": api.OK, "GET / HTTP/1.1\r\nHost: " + letters64[:62] + ":80\r\n\r\n": api.ErrForm, "CONNECT " + letters64[:61] + ":80 HTTP/1.1\r\nHost: a\r\n\r\n": api.OK, "CONNECT " + letters64[:62] + ":80 HTTP/1.1\r\nHost: a\r\n\r\n": api.ErrForm,
 		"GET / HTTP/1.0\r\nHost: a\r\n\r\n" + strings.Repeat("a", 579): api.ErrLong, "GET / HTTP/1.0\r\nHost: a\r\n\r\n": api.ErrForm,
 	} {
 		if q, err := request.One([]byte(s)); err != want || (text(q) == text(api.Request{})) != (want != api.OK) {
@@ -112,15 +113,15 @@ func TestP10_3FirstLines(t *testing.T) {
 	}
 }
 
-// goodHosts are hosts, by the words; withPort tells of each whether it has a port.
-func goodHosts() (l []string, withPort []bool) {
+// goodHosts are hosts, by the words, of up to 64 bytes; hasPort tells of each whether it has a port.
+func goodHosts() (l []string, hasPort []bool) {
 	for _, s := range []string{"a", "z", "0", "9", ".", "-", "a.b", "..", "--", "-.-", "10.0.0.1", "web-1.shop", "999.999", letters64, letters64[:63], strings.Repeat("a", 64), strings.Repeat(".", 64)} {
-		l, withPort = append(l, s), append(withPort, false)
+		l, hasPort = append(l, s), append(hasPort, false)
 		for _, port := range []string{"1", "9", "10", "80", "443", "8080", "9999", "10000", "65534", "65535"} {
-			l, withPort = append(l, s+":"+port), append(withPort, true)
+			l, hasPort = append(l, withPort(s, port)), append(hasPort, true)
 		}
 	}
-	return l, withPort
+	return l, hasPort
 }
 
 // badHosts are texts that are no hosts, even in small letters.
@@ -129,6 +130,7 @@ func badHosts() []string {
 		"", ":", ":80", "a:", "a:0", "a:00", "a:080", "a:01", "a:65536", "a:65537", "a:70000", "a:99999", "a:100000", "a:4294967376", "a:18446744073709551696", "a:99999999999999999999999", "a:+80", "a:-80", "a: 80", "a:80 ", "a :80", "a:8 0", "a:80:80", "a::80", "a:b", "a:8b", "a:0x50", "a:8_0", "a:80.0", "a:8e1", "a:\u0661", "a:80\x00", "a:80\n", "a:80/",
 		" a", "a ", "a b", "\ta", "a\t", "a\n", "a\r\n", "\x00", "a\x00", "\x00a", "a\x7f", "a_b", "_", "a/b", "/", "a/", "a?b", "a#b", "a@b", "@a", "u:p@a", "a,b", "a;b", "a*b", "*", "*.a", "a%41", "%", "[::1]", "[::1]:80", "::1", "a!b", "~", "(a)", "a'b", "a\"b", "a\\b", "{a}", "a|b", "a+b", "a=b", "a&b", "a$b", "`", "^",
 		"\u00e9", "a\u00e9", "\u212a", "\u212aa.b", "a.\u212a:80", "\u017f", "\u0130", "a\u0130b", "\uff41", "\u0430", "a\u3002b", "a\uff0eb", "\u00ad", "a\u200bb", "\ufeffa", "\ufffd", "\xff", "a\xff", "\xc1\xa1", "a\xe2\x84", "\U0001d41a", "a:\uff18",
+		letters64[:63] + ":1", letters64[:62] + ":80", letters64[:63] + ":80", letters64 + ":80", letters64[:59] + ":65535", letters64 + ":65535", letters64[:63] + ":", letters64 + ":",
 		letters64 + "a", "a" + letters64, letters64 + ".", letters64 + "a:80", strings.Repeat("a", 65), strings.Repeat("a", 128), strings.Repeat("a", 256+7), strings.Repeat("a", 1<<16+7), strings.Repeat("a", 1<<20), strings.Repeat("a.", 40) + ":80", "a:" + strings.Repeat("8", 100000), "a:" + strings.Repeat("0", 100000) + "80",
 	}
 }
@@ -174,12 +176,12 @@ func TestP10_3Hosts(t *testing.T) {
 }
 
 func TestP10_3Connect(t *testing.T) {
-	good, withPort := goodHosts()
+	good, hasPort := goodHosts()
 	for i, s := range good {
 		for _, x := range []string{s, high(s)} {
-			checkFirst(t, "CONNECT "+x+" HTTP/1.1", withPort[i])
+			checkFirst(t, "CONNECT "+x+" HTTP/1.1", hasPort[i])
 			q, err := request.Of(api.Raw{Start: "CONNECT " + x + " HTTP/1.1", Heads: row("host", "Other.Host")})
-			if withPort[i] && (err != api.OK || q.Target != x || q.Path != "" || q.Query != "" || q.Host != "other.host") {
+			if hasPort[i] && (err != api.OK || q.Target != x || q.Path != "" || q.Query != "" || q.Host != "other.host") {
 				t.Errorf("CONNECT %q: %q, %d", x, q, err)
 			}
 			checkFirst(t, "GET "+x+" HTTP/1.1", false)
@@ -283,7 +285,9 @@ func TestP10_4MayHost(t *testing.T) {
 	}
 	for n := range 300 {
 		check(strings.Repeat("a", n), n >= 1 && n <= 64)
-		check(strings.Repeat("a", n)+":80", n >= 1 && n <= 64)
+		for _, port := range []string{"1", "80", "8080", "65535"} {
+			check(strings.Repeat("a", n)+":"+port, n >= 1 && n+len(":"+port) <= 64)
+		}
 	}
 	for x := range 256 {
 		c := string([]byte{byte(x)})
@@ -303,7 +307,7 @@ func TestP10_4MayHost(t *testing.T) {
 	if fine < 1000 {
 		t.Errorf("%d hosts: too few", fine)
 	}
-	for _, s := range []string{"a.b:80", "a:65535", letters64} {
+	for _, s := range []string{"a.b:80", "a:65535", letters64, withPort(letters64, "80"), withPort(letters64, "65535")} {
 		for near := range probe.Near(s) {
 			may, _ := isHost(near)
 			check(near, may)
@@ -371,6 +375,7 @@ func TestP10_4Bytes(t *testing.T) {
 	put := api.Request{Method: "PUT", Target: "/", Path: "/", Host: "a", Heads: row("content-length", "2", "host", "a"), Body: []byte("\r\n")}
 	empty, none := post, put
 	empty.Body, none.Body, none.Heads = nil, nil, row("content-length", "0", "host", "a")
+	host64 := withPort(letters64, "80")
 	long := post
 	long.Body = []byte(bytes1024)
 	for _, x := range []struct {
@@ -384,6 +389,7 @@ func TestP10_4Bytes(t *testing.T) {
 		{none, "PUT / HTTP/1.1\r\ncontent-length: 0\r\nhost: a\r\n\r\n"},
 		{long, "POST / HTTP/1.1\r\nhost: a\r\ntransfer-encoding: Chunked\r\n\r\n400\r\n" + bytes1024 + "\r\n0\r\n\r\n"},
 		{api.Request{Method: "CONNECT", Target: "A.b:80", Host: "c", Heads: row("host", "C")}, "CONNECT A.b:80 HTTP/1.1\r\nhost: C\r\n\r\n"},
+		{api.Request{Method: "CONNECT", Target: host64, Host: host64, Heads: row("host", host64)}, "CONNECT " + host64 + " HTTP/1.1\r\nhost: " + host64 + "\r\n\r\n"},
 	} {
 		if b, err := request.Bytes(x.q); string(b) != x.want || err != api.OK || !request.May(x.q) || !checkMay(t, x.q) {
 			t.Errorf("%.200q: %.200q, %d", x.q, b, err)
@@ -397,6 +403,7 @@ func TestP10_4MayNot(t *testing.T) {
 	post := api.Request{Method: "POST", Target: "/", Path: "/", Host: "a", Heads: row("host", "a", "content-length", "3"), Body: []byte("abc")}
 	chunks := api.Request{Method: "POST", Target: "/", Path: "/", Host: "a", Heads: row("host", "a", "transfer-encoding", "chunked"), Body: []byte("abc")}
 	tunnel := api.Request{Method: "CONNECT", Target: "a:80", Host: "a", Heads: row("host", "a")}
+	host65 := letters64[:62] + ":80"
 	for i, x := range []struct {
 		q      api.Request
 		change func(q *api.Request)
@@ -423,6 +430,7 @@ func TestP10_4MayNot(t *testing.T) {
 		{get, func(q *api.Request) { q.Host = "" }},
 		{get, func(q *api.Request) { q.Host = "A.b" }},
 		{get, func(q *api.Request) { q.Host = "b" }},
+		{get, func(q *api.Request) { q.Host, q.Heads = host65, row("host", host65) }},
 		{get, func(q *api.Request) { q.Heads = nil }},
 		{get, func(q *api.Request) { q.Heads = row("Host", "A.b") }},
 		{get, func(q *api.Request) { q.Heads = row("host", "A.b ") }},
@@ -447,6 +455,7 @@ func TestP10_4MayNot(t *testing.T) {
 		{tunnel, func(q *api.Request) { q.Path = "/" }},
 		{tunnel, func(q *api.Request) { q.Query = "a" }},
 		{tunnel, func(q *api.Request) { q.Target = "a" }},
+		{tunnel, func(q *api.Request) { q.Target = host65 }},
 		{tunnel, func(q *api.Request) { q.Target, q.Path = "/", "/" }},
 		{tunnel, func(q *api.Request) { q.Method = "GET" }},
 	} {

@@ -23,7 +23,7 @@ const waits = api.Errno(-1)
 // The words of requests' first lines, of methods, of hosts and of chunks' sizes, for the library's expressions; \z, as $ would let a line's end follow.
 var (
 	firstForm  = regexp.MustCompile(`\A([A-Z]{1,16}) ([^ ]*) HTTP/1\.1\z`)
-	hostForm   = regexp.MustCompile(`\A[a-z0-9.-]{1,64}(?::([1-9][0-9]{0,4}))?\z`)
+	hostForm   = regexp.MustCompile(`\A[a-z0-9.-]+(?::([1-9][0-9]{0,4}))?\z`)
 	sizeForm   = regexp.MustCompile(`\A[1-9a-fA-F][0-9a-fA-F]{0,3}\z`)
 	largeForm  = regexp.MustCompile(`[A-Z]`)
 	smallForm  = regexp.MustCompile(`[a-z]`)
@@ -161,7 +161,7 @@ func high(s string) string { return smallForm.ReplaceAllStringFunc(s, strings.To
 // isHost tells by the words whether the text may be a host, and whether it has a port.
 func isHost(s string) (may, port bool) {
 	parts := hostForm.FindStringSubmatch(s)
-	if parts == nil {
+	if parts == nil || len(s) > 64 {
 		return false, false
 	}
 	n, _ := strconv.Atoi(parts[1])
@@ -319,11 +319,16 @@ func someText(r *rand.Rand, most int, letters string) string {
 // pick answers one of the texts; r says which.
 func pick(r *rand.Rand, l ...string) string { return l[r.Intn(len(l))] }
 
+// withPort answers the host with the port behind it, of its letters as many as there is room for.
+func withPort(s, port string) string {
+	return s[:min(len(s), 63-len(port))] + ":" + port
+}
+
 // someHost answers a host, in letters of both sizes, and a port in each second one, or always; r says which.
 func someHost(r *rand.Rand, always bool) string {
 	s := pick(r, "a", "A.b", "web-1.shop", "10.0.0.1", "-", ".", letters64, someText(r, 63, "abcXYZ019.-")+"a")
 	if always || r.Intn(2) == 0 {
-		s += ":" + pick(r, "80", "1", "65535", "8080", strconv.Itoa(1+r.Intn(65535)))
+		s = withPort(s, pick(r, "80", "1", "65535", "8080", strconv.Itoa(1+r.Intn(65535))))
 	}
 	return s
 }
